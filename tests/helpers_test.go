@@ -29,6 +29,15 @@ func randomText(r *rand.Rand, n int) string {
 	return string(b)
 }
 
+// countedText has bytes that come back at no power of two, so that a part in a wrong place is seen.
+func countedText(n int) string {
+	b := make([]byte, n)
+	for i := range b {
+		b[i] = byte(i*7 + i/256)
+	}
+	return string(b)
+}
+
 func randomWords(r *rand.Rand, n int) []int64 {
 	l := make([]int64, n)
 	for i := range l {

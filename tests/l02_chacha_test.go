@@ -170,10 +170,7 @@ func TestStreamOfTheStandard(t *testing.T) {
 
 // The digests are those of what openssl enc -chacha20 makes of the same text.
 func TestStreamOfManyBlocks(t *testing.T) {
-	text := make([]byte, impl.MaxText)
-	for i := range text {
-		text[i] = byte(i*7 + i/256)
-	}
+	text := countedText(impl.MaxText)
 	rows := []struct {
 		counter int64
 		digest  string
@@ -183,7 +180,7 @@ func TestStreamOfManyBlocks(t *testing.T) {
 		{lastStart, "d134fd1fcf27f1df5098b992c62cc7a6b64d261736e37c5dfbe2c30757362429"},
 	}
 	for _, row := range rows {
-		got := impl.ChaStream(bytesOf(t, countingKey), bytesOf(t, streamNonce), row.counter, string(text))
+		got := impl.ChaStream(bytesOf(t, countingKey), bytesOf(t, streamNonce), row.counter, text)
 		if sum := sha256.Sum256([]byte(got)); len(got) != impl.MaxText || hex.EncodeToString(sum[:]) != row.digest {
 			t.Errorf("another stream of %d bytes from counter %d on", len(got), row.counter)
 		}
