@@ -88,14 +88,14 @@ func randomBytes(r *rand.Rand, least int, most int, first int) string {
 
 func randomFeed(r *rand.Rand) impl.Feed {
 	f := impl.Feed{Url: randomBytes(r, 1, 20, 33), Title: randomBytes(r, 0, 24, 32)}
-	ids := map[string]bool{}
+	var ids []string
 	for range r.Intn(13) {
-		ids[randomBytes(r, 1, 8, 33)] = true
+		ids = append(ids, randomBytes(r, 1, 8, 33))
 	}
-	for id := range ids {
+	slices.Sort(ids)
+	for _, id := range slices.Compact(ids) {
 		f.Items = append(f.Items, impl.Item{Id: id, Title: randomBytes(r, 0, 24, 32), Day: r.Int63n(impl.MaxDay + 1)})
 	}
-	slices.SortFunc(f.Items, func(a, b impl.Item) int { return strings.Compare(a.Id, b.Id) })
 	return f
 }
 
